@@ -22,9 +22,9 @@ class Near(ChipCase):
             self.check(0xD500, {}, {5: 0x01020304}, memory=memory, at=at)
             self.check(0xD501, {}, {5: 0x05060708}, memory=memory, at=at)
 
-    def test_itself(self):
-        told = ask(reset(), run(1, code(0x90FF, 0, 0xABCD)), get(0))
-        self.assertEqual(told[1:], [[1, 0, 0], [0, 0]])
+    def test_bytes_that_were_not_handed_in(self):
+        told = ask(reset(), put(0, 5), run(1, code(0x90FF)), get(0))
+        self.assertEqual(told[2:], [[1, 0, 0], [0, 0]])
 
 
 class AtTheEnd(ChipCase):
